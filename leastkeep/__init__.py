@@ -1,0 +1,1 @@
+"""Leastkeep: a compiler that keeps only what can still be wanted."""

@@ -1,0 +1,109 @@
+"""The sessions of the document, and the interface: names, arguments, and in which file each thing is defined."""
+
+import importlib
+import inspect
+import unittest
+
+SESSIONS = [
+    """
+>>> from leastkeep.programs import Program
+>>> from leastkeep.runs import run
+>>> double = Program(8, ["x", "y"], [("ask", "x", 1), ("set", "y", (3, 1, 0), 2), ("choose", (3, 4)), ("say", (0, 1, 1), 2), ("stop",)])
+>>> run(double, [5, 0, 0, 0])
+(2, (5, 8), [13])
+""",
+    """
+>>> from leastkeep.programs import Program
+>>> Program(8, ["x", "x"], [("stop",)])
+raises NoProgram('variables', 1)
+""",
+    """
+>>> from leastkeep.programs import Program
+>>> from leastkeep.codes import Code
+>>> from leastkeep.judging import judge
+>>> one = Program(8, ["x"], [("ask", "x", 1), ("say", (0, 2), 2), ("stop",)])
+>>> code = Code(8, [0, 1, 0], [("ask", (1,), (), (((0, 2),),)), ("go", (2,), ((0, 1),), ((),)), ("stop", (), (), ())], ())
+>>> judge(one, code) is None
+True
+""",
+    """
+>>> from leastkeep.modules import count, echelon
+>>> [echelon(3, 2, [(2, 1)]), count(3, 2, [(2, 1)])]
+[[(2, 1), (0, 4)], 8]
+""",
+    """
+>>> from leastkeep.modules import coefficients, is_in
+>>> [is_in(3, 2, [(2, 1)], (4, 2)), is_in(3, 2, [(2, 1)], (2, 2)), coefficients(3, 2, [(2, 1)], (0, 4))]
+[True, False, (4,)]
+""",
+    """
+>>> from leastkeep.modules import kernel, meet
+>>> [kernel(3, 2, [(2, 1)]), meet(3, 2, [(2, 1)], [(0, 1)])]
+[[(1, 6)], [(0, 4)]]
+""",
+    """
+>>> from leastkeep.modules import generators
+>>> generators(3, 2, [(2, 0), (0, 4), (2, 4)])
+2
+""",
+    """
+>>> from leastkeep.modules import smith
+>>> smith(3, [(2, 4), (2, 0)])
+[1, 2]
+""",
+]
+
+INTERFACE = {
+    "programs": ["Program(width, variables, rows)"],
+    "runs": ["run(program, numbers)", "go_on(program, row, state, numbers)"],
+    "modules": ["echelon(width, size, rows)", "kernel(width, size, rows)", "meet(width, size, one, other)",
+                "is_in(width, size, rows, row)", "coefficients(width, size, rows, row)",
+                "generators(width, size, rows)", "count(width, size, rows)", "picked(width, size, rows)",
+                "smith(width, table)"],
+    "codes": ["Code(width, counts, rows, start)", "run_code(code, numbers)"],
+    "judging": ["judge(program, code)"],
+    "hulls": ["hull(program, row)", "all_hulls(program)", "relations(program, row)", "nonzero(program, row, form)",
+              "spanning_runs(program, row)", "is_spanning(program, row, runs)"],
+    "wants": ["wanted(program, row)", "all_wanted(program)", "spanning_ways(program, row)",
+              "is_wanted(program, row, form)", "is_spanning_ways(program, row, ways)",
+              "told_apart(program, row, one, other)"],
+}
+
+
+class Examples(unittest.TestCase):
+    def test_sessions(self):
+        for session in SESSIONS:
+            lines = session.strip().splitlines()
+            names = {}
+            for line in lines[:-2]:
+                exec(line[4:], names)
+            self.check(lines[-2][4:], lines[-1], names)
+
+    def check(self, call, told, names):
+        if not told.startswith("raises "):
+            self.assertEqual(repr(eval(call, names)), told)
+            return
+        with self.assertRaises(ValueError) as caught:
+            eval(call, names)
+        self.assertEqual(repr(caught.exception), told[len("raises "):])
+
+    def test_interface(self):
+        for file, lines in INTERFACE.items():
+            module = importlib.import_module("leastkeep." + file)
+            for line in lines:
+                name = line.split("(")[0]
+                made = getattr(module, name)
+                self.assertEqual(name + str(inspect.signature(made)), line)
+                self.assertEqual(made.__module__, "leastkeep." + file)
+
+    def test_methods_stand_in_their_class(self):
+        programs = importlib.import_module("leastkeep.programs")
+        codes = importlib.import_module("leastkeep.codes")
+        for name in ("__init__", "__eq__", "__len__", "__getitem__", "__iter__"):
+            self.assertIn(name, vars(programs.Program))
+        for name in ("__init__", "__eq__"):
+            self.assertIn(name, vars(codes.Code))
+
+
+if __name__ == "__main__":
+    unittest.main()
