@@ -30,8 +30,6 @@ def wrong_number(graph, row, numbers):
 
 def _fits(exits, number):
     kind, nexts = exits
-    if kind == "stop":
-        return False
     if kind == "ask":
         return is_integer(number)
     return is_within(number, 0, len(nexts) - 1)

@@ -42,8 +42,10 @@ class Stairs:
             step = self.steps[column]
             many = row[column] // step[column]
             if many and column > behind:
-                row = [(number - many * less) & mask for number, less in zip(row, step)]
-        return tuple(row)
+                # Ahead of its pivot a step has only zeros.
+                row = row[:column] + tuple([(number - many * less) & mask
+                                            for number, less in zip(row[column:], step[column:])])
+        return row
 
     def has(self, row):
         """Whether a row is an element of the module, as far as the leading columns tell."""

@@ -49,6 +49,7 @@ class Codes(unittest.TestCase):
                   (8, [1, 1], base[2] + base[2], (0,)), base[:2] + ([("go", (0,), (), (((0, 1),),))], (0,))]
         for other in others:
             self.assertNotEqual(Code(*base), Code(*other))
+        self.assertNotEqual(Code(8, [0, 0], [STOP, STOP], ()), Code(8, [0, 1], [STOP, STOP], ()))
         for other in [(8, (1,), tuple(base[2]), (256,)), (8, [1], [("go", (0,), ((256, -255),), (((0, 1),),))], (0,))]:
             self.assertEqual(Code(*base), Code(*other))
 

@@ -110,9 +110,9 @@ class Programs(unittest.TestCase):
         for value in no_sequences() + [[], (), ["stop"], ("stop", 0), ("stop", ()), ("go", 0), ("Stop",), (["stop"],)]:
             self.wrong_row(value)
             self.wrong_row(value, 3)
-        for kind in odd_values():
-            self.wrong_row((kind,))
-            self.wrong_row((kind, 0))
+        for kind in odd_values() + [0, "", "go", "Set", "ask "]:
+            for more in [(), (0,), ((0,),), ("x", 0), ((0, 0, 0), 0), ("x", (0, 0, 0), 0)]:
+                self.wrong_row((kind,) + more)
 
     def test_wrong_kinds_of_rows(self):
         form = (0, 0, 0)
