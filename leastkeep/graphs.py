@@ -58,3 +58,20 @@ def exits_of(graph, row, asked):
     if kind == "ask":
         return [(number, nexts[0]) for number in asked]
     return list(enumerate(nexts))
+
+
+def shape_of(exits):
+    """What tells which numbers fit a row: whether it asks, and how many labels it has (one, if only 0 fits)."""
+    kind, nexts = exits
+    return (kind == "ask", len(nexts))
+
+
+def number_for_one(exits, others):
+    """A number that fits one of two rows alone, where all labels of one are labels of the other."""
+    asks, many = shape_of(exits)
+    asks_too, less = shape_of(others)
+    if asks:
+        return less
+    if asks_too:
+        return many
+    return min(many, less)

@@ -56,7 +56,7 @@ def is_spanning(program, row, runs):
     check_row(program, row)
     if not isinstance(runs, list):
         return False
-    if not all([_reaches(program, row, numbers) for numbers in runs]):
+    if not all([reaches(program, row, numbers) for numbers in runs]):
         return False
     states = [run(program, numbers)[1] for numbers in runs]
     return _hull_of(program, states) == hull(program, row)
@@ -67,6 +67,11 @@ def check_form(program, form):
     index = wrong_integer(form, len(program.variables) + 1)
     if index is not None:
         raise NoForm(index)
+
+
+def reaches(program, row, numbers):
+    """Whether a value is a run that reaches a row."""
+    return wrong_number(graph_of(program), 0, numbers) is None and run(program, numbers)[0] == row
 
 
 def _nodes_by_row(program):
@@ -95,7 +100,3 @@ def _hull_of(program, states):
     differences = [_difference(state, states[0]) for state in states]
     stairs = stairs_of(program.width, len(program.variables), differences)
     return (stairs.rest(states[0]), stairs.echelon_rows())
-
-
-def _reaches(program, row, numbers):
-    return wrong_number(graph_of(program), 0, numbers) is None and run(program, numbers)[0] == row

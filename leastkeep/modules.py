@@ -1,7 +1,7 @@
 """Modules of rows modulo a power of two."""
 
 from leastkeep.errors import NoRows
-from leastkeep.stairs import pivoted, stairs_of, valuation
+from leastkeep.stairs import Solver, odd_inverse, stairs_of, valuation
 from leastkeep.values import is_width, is_within, lowered, unit_row, wrong_integer
 
 
@@ -14,7 +14,7 @@ def echelon(width, size, rows):
 def count(width, size, rows):
     """How many rows the module has."""
     _check_rows(width, size, "rows", rows)
-    return 1 << _exponent(stairs_of(width, size, rows))
+    return 1 << sum([width - exponent for exponent in stairs_of(width, size, rows).exponents()])
 
 
 def is_in(width, size, rows, row):
@@ -29,12 +29,10 @@ def coefficients(width, size, rows, row):
     _check_rows(width, size, "rows", rows)
     _check_row(size, row)
     chosen = picked(width, size, rows)
-    marked = [tuple(rows[index]) + unit_row(at, len(chosen)) for at, index in enumerate(chosen)]
-    stairs = stairs_of(width, size, marked)
-    rest = stairs.rest(lowered(row, width) + (0,) * len(chosen))
-    if stairs.first_column(rest) is not None:
+    found = Solver(width, size, [rows[index] for index in chosen]).factors(row)
+    if found is None:
         return None
-    factors = dict(zip(chosen, lowered([-number for number in rest[size:]], width)))
+    factors = dict(zip(chosen, found))
     return tuple([factors.get(index, 0) for index in range(len(rows))])
 
 
@@ -71,19 +69,27 @@ def picked(width, size, rows):
 def smith(width, table):
     """The exponents of the powers of 2 to which a table can be brought."""
     _check_table(width, table)
-    rows = [lowered(row, width) for row in table]
+    return [exponent for _, exponent, _ in stacked(width, table)]
+
+
+def stacked(width, rows):
+    """Tuples (column, exponent, part), exponents ascending, so that the parts times 2 ** exponent have the module.
+
+    Each part is 1 in its column, and 0 in the columns of those ahead of it:
+    so the parts belong to a basis of all rows.
+    """
+    rows = [lowered(row, width) for row in rows]
     found = []
     place = _least_place(rows)
     while place is not None:
-        found.append(valuation(rows[place[0]][place[1]]))
-        rows = _cleared(rows, place, width)
+        at, column = place
+        exponent = valuation(rows[at][column])
+        factor = odd_inverse(rows[at][column] >> exponent, (1 << width) - 1)
+        part = tuple([number >> exponent for number in lowered([factor * number for number in rows[at]], width)])
+        found.append((column, exponent, part))
+        rows = [_cleared(row, column, part, width) for row in rows[:at] + rows[at + 1:]]
         place = _least_place(rows)
     return found
-
-
-def _exponent(stairs):
-    steps = stairs.steps
-    return sum([stairs.width - valuation(steps[column][column]) for column in steps])
 
 
 def _kernel_of(width, size, rows):
@@ -103,14 +109,9 @@ def _least_place(rows):
     return best
 
 
-def _cleared(rows, place, width):
-    """The rows but one, less multiples of it: 0 in its column, which all its other numbers then can leave, too."""
-    at, column = place
-    lead = pivoted(rows[at], column, width)
-    others = rows[:at] + rows[at + 1:]
-    factors = [row[column] // lead[column] for row in others]
-    return [lowered([number - factor * less for number, less in zip(row, lead)], width)
-            for row, factor in zip(others, factors)]
+def _cleared(row, column, part, width):
+    """The row less a multiple of a part that is 1 in a column."""
+    return lowered([number - row[column] * less for number, less in zip(row, part)], width)
 
 
 def _check_rows(width, size, part, rows):

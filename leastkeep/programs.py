@@ -55,6 +55,15 @@ def kind_and_nexts(item):
     return ("go", (item[-1],))
 
 
+def with_nexts(item, nexts):
+    """The row with other rows that come next."""
+    if item[0] == "stop":
+        return item
+    if item[0] == "choose":
+        return ("choose", nexts)
+    return item[:-1] + nexts
+
+
 def graph_of(program):
     """The list of the kinds of all rows and of the rows that come next."""
     return [kind_and_nexts(item) for item in program.rows]
@@ -92,6 +101,17 @@ def stepped(program, row, vector, number):
         return vector
     place = place_of(program, item)
     return vector[:place] + (worth,) + vector[place + 1:]
+
+
+def pulled_back(program, row, form, number):
+    """The form ahead of a row of what has a form behind it, where a number is asked for."""
+    item = program.rows[row]
+    if item[0] not in ("set", "ask"):
+        return form
+    at = place_of(program, item)
+    rest = form[:at] + (0,) + form[at + 1:]
+    other = (number,) + (0,) * len(program.variables) if item[0] == "ask" else item[2]
+    return lowered([one + form[at] * two for one, two in zip(rest, other)], program.width)
 
 
 def _check_variables(variables):

@@ -26,27 +26,52 @@ class Node:
         return self.numbers_back()[::-1]
 
 
-def nodes_found(width, starts, moves):
-    """The list of nodes whose vectors have, at each row, the module of all vectors that come there.
+class Search:
+    """Finds nodes whose vectors have, at each row, the module of all vectors that come there.
 
     starts are nodes without a source; moves(row, vector) tells the tuples
     (number, row, vector) to which a step leads, in which sums of multiples
-    stay such sums. Nodes with fewer steps stand first, so that what holds for
-    the nodes of at most some steps holds for all vectors of at most as many:
-    a linear function that is not 0 behind some steps is not 0 at a node of
-    no more steps.
+    stay such sums. Nodes with fewer steps are found first, so that what holds
+    for the nodes of at most some steps holds for all vectors of at most as
+    many: a linear function that is not 0 behind some steps is not 0 at a node
+    of no more steps. Of as many steps, those with the least numbers are found
+    first, if moves tells numbers in their order.
     """
-    kept = []
-    stairs = {}
-    for node in starts:
-        _keep(width, kept, stairs, node)
-    at = 0
-    while at < len(kept):
-        node = kept[at]
+
+    def __init__(self, width, starts, moves):
+        self.width = width
+        self.moves = moves
+        self.kept = []
+        self.stairs = {}
+        self.done = 0
+        for node in starts:
+            self._keep(node)
+
+    def next_node(self):
+        """The next node, from which all steps have been taken then, or None if there is none left."""
+        if self.done == len(self.kept):
+            return None
+        node = self.kept[self.done]
+        self.done += 1
+        moves = self.moves
         for number, row, vector in moves(node.row, node.vector):
-            _keep(width, kept, stairs, Node(row, vector, node, number))
-        at += 1
-    return kept
+            self._keep(Node(row, vector, node, number))
+        return node
+
+    def _keep(self, node):
+        if node.row not in self.stairs:
+            size = len(node.vector)
+            self.stairs[node.row] = Stairs(self.width, size, size)
+        if self.stairs[node.row].take(node.vector):
+            self.kept.append(node)
+
+
+def nodes_found(width, starts, moves):
+    """The list of all nodes of a search."""
+    search = Search(width, starts, moves)
+    while search.next_node() is not None:
+        pass
+    return search.kept
 
 
 def by_row(many, nodes):
@@ -55,10 +80,3 @@ def by_row(many, nodes):
     for node in nodes:
         found[node.row].append(node)
     return found
-
-
-def _keep(width, kept, stairs, node):
-    if node.row not in stairs:
-        stairs[node.row] = Stairs(width, len(node.vector))
-    if stairs[node.row].take(node.vector):
-        kept.append(node)

@@ -1,6 +1,7 @@
 """Rows in steps, to which further rows are added one by one."""
 
-from leastkeep.values import lowered
+from leastkeep.lanes import Lanes
+from leastkeep.values import lowered, unit_row
 
 
 def valuation(number):
@@ -16,82 +17,106 @@ def odd_inverse(odd, mask):
     return found
 
 
-def pivoted(row, column, width):
-    """The row times an odd number, so that a power of 2 stands in a column where the row is not 0."""
-    mask = (1 << width) - 1
-    factor = odd_inverse(row[column] >> valuation(row[column]), mask)
-    return tuple([(factor * number) & mask for number in row])
-
-
 class Stairs:
-    """The module of the rows that were taken, as rows in steps.
+    """The module of the rows of `size` numbers that were taken, as rows in steps.
 
     Only the first `lead` columns have pivots. What stands behind them is
-    carried along, so that it tells how each step was made.
+    carried along, so that it tells how each step was made. Steps are packed;
+    for each column with a pivot its exponent is kept beside the step.
     """
 
-    def __init__(self, width, lead):
+    def __init__(self, width, lead, size):
         self.width = width
         self.lead = lead
+        self.lanes = Lanes(width, size)
         self.steps = {}
+        self.columns = []
 
-    def rest(self, row, behind=-1):
-        """The row less multiples of the steps, smaller than each pivot in its column; only columns behind one count."""
-        mask = (1 << self.width) - 1
-        for column in sorted(self.steps):
-            step = self.steps[column]
-            many = row[column] // step[column]
-            if many and column > behind:
-                # Ahead of its pivot a step has only zeros.
-                row = row[:column] + tuple([(number - many * less) & mask
-                                            for number, less in zip(row[column:], step[column:])])
-        return row
+    def rest(self, row):
+        """The row less multiples of the steps, smaller than each pivot in its column."""
+        return self.lanes.unpacked(self._rest(self.lanes.packed(row), -1))
 
     def has(self, row):
         """Whether a row is an element of the module, as far as the leading columns tell."""
-        return self.first_column(self.rest(lowered(row, self.width))) is None
-
-    def first_column(self, row):
-        """The first of the leading columns in which a row is not 0, or None."""
-        for column in range(self.lead):
-            if row[column]:
-                return column
-        return None
+        return self._first_column(self._rest(self.lanes.packed(row), -1)) is None
 
     def take(self, row):
         """Add a row to the module; tell whether it has become larger."""
-        row = self.rest(lowered(row, self.width))
-        if self.first_column(row) is None:
-            return False
-        waiting = [row]
+        larger = False
+        waiting = [self.lanes.packed(row)]
         while waiting:
-            row = self.rest(waiting.pop())
-            column = self.first_column(row)
+            rest = self._rest(waiting.pop(), -1)
+            column = self._first_column(rest)
             if column is not None:
-                waiting.extend(self._put(row, column))
-        return True
+                larger = True
+                waiting.extend(self._put(rest, column))
+        return larger
+
+    def echelon_rows(self):
+        """The list of the steps, in the columns of later pivots smaller than these."""
+        return [self.lanes.unpacked(self._rest(self.steps[column][0], column)) for column in self.columns]
+
+    def exponents(self):
+        """The list of the exponents of all pivots."""
+        return [self.steps[column][1] for column in self.columns]
+
+    def _rest(self, row, behind):
+        """A packed row less multiples of the steps whose pivots stand behind a column."""
+        lanes = self.lanes
+        for column in self.columns:
+            step, exponent = self.steps[column]
+            many = ((row >> lanes.shifts[column]) & lanes.mask) >> exponent
+            if many and column > behind:
+                row = (row + (lanes.mask + 1 - many) * step) & lanes.whole
+        return row
+
+    def _first_column(self, row):
+        """The first of the leading columns in which a packed row is not 0, or None."""
+        if not row:
+            return None
+        column = valuation(row) // self.lanes.lane
+        return column if column < self.lead else None
 
     def _put(self, row, column):
-        """Make a row a step; tell the rows that are to be looked at again.
+        """Make a packed row a step; tell the rows that are to be looked at again.
 
         These are the step that stood there, and the multiple of the new one
         that is 0 in its column: later steps must have it as their sum.
         """
-        row = pivoted(row, column, self.width)
-        again = [self.steps[column]] if column in self.steps else []
-        self.steps[column] = row
-        factor = (1 << self.width) // row[column]
-        again.append(lowered([factor * number for number in row], self.width))
+        lanes = self.lanes
+        number = (row >> lanes.shifts[column]) & lanes.mask
+        exponent = valuation(number)
+        step = (odd_inverse(number >> exponent, lanes.mask) * row) & lanes.whole
+        again = [self.steps[column][0]] if column in self.steps else []
+        if exponent:
+            again.append((step << (self.width - exponent)) & lanes.whole)
+        self.steps[column] = (step, exponent)
+        self.columns = sorted(list(self.steps))
         return again
-
-    def echelon_rows(self):
-        """The list of the steps, in the columns of later pivots smaller than these."""
-        return [self.rest(self.steps[column], column) for column in sorted(self.steps)]
 
 
 def stairs_of(width, lead, rows):
-    """The stairs that have taken some rows."""
-    stairs = Stairs(width, lead)
+    """The stairs that have taken some rows of `lead` numbers."""
+    stairs = Stairs(width, lead, lead)
     for row in rows:
         stairs.take(row)
     return stairs
+
+
+class Solver:
+    """Tells with which factors a row is the sum of some rows of `size` numbers."""
+
+    def __init__(self, width, size, rows):
+        self.width = width
+        self.size = size
+        self.zeros = (0,) * len(rows)
+        self.stairs = Stairs(width, size, size + len(rows))
+        for at, row in enumerate(rows):
+            self.stairs.take(tuple(row) + unit_row(at, len(rows)))
+
+    def factors(self, row):
+        """A tuple with a factor for each of the rows, or None if a row is no such sum."""
+        rest = self.stairs.rest(tuple(row) + self.zeros)
+        if any(rest[:self.size]):
+            return None
+        return lowered([-number for number in rest[self.size:]], self.width)

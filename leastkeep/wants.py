@@ -3,7 +3,7 @@
 from leastkeep.graphs import exits_of, rows_on_way, wrong_number
 from leastkeep.hulls import check_form
 from leastkeep.modules import echelon, is_in, picked
-from leastkeep.programs import check_row, forms_said, graph_of, place_of, said_at, stepped
+from leastkeep.programs import check_row, forms_said, graph_of, pulled_back, said_at, stepped
 from leastkeep.runs import check_state
 from leastkeep.searching import Node, by_row, nodes_found
 from leastkeep.values import is_within, lowered
@@ -42,9 +42,9 @@ def is_spanning_ways(program, row, ways):
     check_row(program, row)
     if not isinstance(ways, list):
         return False
-    if not all([_is_way(program, row, item) for item in ways]):
+    if not all([is_way(program, row, item) for item in ways]):
         return False
-    parts = [_linear_part(program, row, numbers, index) for numbers, index in ways]
+    parts = [form_of_way(program, row, numbers, index)[1:] for numbers, index in ways]
     return echelon(program.width, len(program.variables), parts) == wanted(program, row)
 
 
@@ -67,6 +67,30 @@ def told_apart(program, row, one, other):
     return None
 
 
+def is_way(program, row, item):
+    """Whether a value is a tuple of a way on from a row and the position of one of the numbers that it says."""
+    if not isinstance(item, tuple) or len(item) != 2:
+        return False
+    graph = graph_of(program)
+    if wrong_number(graph, row, item[0]) is not None:
+        return False
+    counts = [len(forms_said(program, spot)) for spot in rows_on_way(graph, row, item[0])]
+    return is_within(item[1], 0, sum(counts) - 1)
+
+
+def form_of_way(program, row, numbers, index):
+    """The form, over the variables at a row, of a number that a way on from it says."""
+    on_way = rows_on_way(graph_of(program), row, numbers)
+    at = 0
+    while index >= len(forms_said(program, on_way[at])):
+        index -= len(forms_said(program, on_way[at]))
+        at += 1
+    form = forms_said(program, on_way[at])[index]
+    for ahead in reversed(range(at)):
+        form = pulled_back(program, on_way[ahead], form, numbers[ahead])
+    return form
+
+
 def _nodes_by_row(program):
     """For each row a list of nodes: linear parts of what is said on ways on, the shorter ones first.
 
@@ -78,7 +102,7 @@ def _nodes_by_row(program):
               for position, form in enumerate(forms_said(program, row))]
 
     def moves(row, part):
-        return [(number, ahead, _pulled_back(program, ahead, part)) for number, ahead in steps_to[row]]
+        return [(number, ahead, pulled_back(program, ahead, (0,) + part, 0)[1:]) for number, ahead in steps_to[row]]
 
     return by_row(len(program.rows), nodes_found(program.width, starts, moves))
 
@@ -93,18 +117,6 @@ def _steps_to_rows(program):
     return found
 
 
-def _pulled_back(program, row, part):
-    """The linear part ahead of a row of what has a linear part behind it."""
-    item = program.rows[row]
-    if item[0] not in ("set", "ask"):
-        return part
-    at = place_of(program, item) - 1
-    rest = part[:at] + (0,) + part[at + 1:]
-    if item[0] == "ask":
-        return rest
-    return lowered([number + part[at] * factor for number, factor in zip(rest, item[2][1:])], program.width)
-
-
 def _way_from(program, node):
     """The way on of a node, and which of the numbers that it says is meant: one of its last row."""
     numbers = node.numbers_back()
@@ -113,26 +125,3 @@ def _way_from(program, node):
         index += len(forms_said(program, node.row))
         node = node.source
     return (numbers + (0,), index + node.number)
-
-
-def _is_way(program, row, item):
-    if not isinstance(item, tuple) or len(item) != 2:
-        return False
-    graph = graph_of(program)
-    if wrong_number(graph, row, item[0]) is not None:
-        return False
-    counts = [len(forms_said(program, spot)) for spot in rows_on_way(graph, row, item[0])]
-    return is_within(item[1], 0, sum(counts) - 1)
-
-
-def _linear_part(program, row, numbers, index):
-    """The linear part, over the variables at a row, of a number that a way on from it says."""
-    on_way = rows_on_way(graph_of(program), row, numbers)
-    at = 0
-    while index >= len(forms_said(program, on_way[at])):
-        index -= len(forms_said(program, on_way[at]))
-        at += 1
-    part = forms_said(program, on_way[at])[index][1:]
-    for ahead in reversed(list(on_way[:at])):
-        part = _pulled_back(program, ahead, part)
-    return part

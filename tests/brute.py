@@ -177,3 +177,117 @@ def least_run_apart(program, code):
                     ahead.append((to, new, changes[number]))
         layer = ahead
     return None
+
+
+def image_of(width, module, parts):
+    """The set of the products of all elements of a module with some parts."""
+    return {tuple(sum(a * b for a, b in zip(part, item)) % 2 ** width for part in parts) for item in module}
+
+
+def least_for(program, row, states):
+    """The least number of registers for some states of a row: all differences and all ways on are gone through."""
+    if not states:
+        return 0
+    width, size = program.width, len(program.variables)
+    first = next(iter(states))
+    differences = module_of(width, size, [tuple(a - b for a, b in zip(state, first)) for state in states])
+    parts = sorted(linear_parts(program, row))
+    return least_generators(width, len(parts), image_of(width, differences, parts))
+
+
+def joint_states(program, code):
+    """For each row a dict of all (state, registers) with which runs reach it, and such a run."""
+    start = ((0,) * len(program.variables), code.start)
+    found = [{} for _ in program.rows]
+    found[0][start] = ()
+    layer = [(0,) + start]
+    while layer:
+        ahead = []
+        for row, state, registers in layer:
+            changes = code_step(code, row, registers)[0]
+            for number, to, new in step(program, row, state)[0]:
+                pair = (new, changes[number])
+                if pair not in found[to]:
+                    found[to][pair] = found[row][state, registers] + (number,)
+                    ahead.append((to,) + pair)
+        layer = ahead
+    return found
+
+
+def shape(item):
+    """What tells which numbers fit a row: -1 for an ask, otherwise the number of labels, or 1."""
+    if item[0] == "choose":
+        return len(item[1])
+    return {"ask": -1, "stop": 0}.get(item[0], 1)
+
+
+def behaviours(programs):
+    """For (index of a program, row, state) a number, equal if the same can be told on all ways on."""
+    cells = {}
+    for index, program in enumerate(programs):
+        for row, item in enumerate(program.rows):
+            for state in product(range(2 ** program.width), repeat=len(program.variables)):
+                exits, said = step(program, row, state)
+                cells[index, row, state] = ((shape(item), tuple(said)), [(index, to, new) for _, to, new in exits])
+    names = numbered({cell: told for cell, (told, _) in cells.items()})
+    many = 0
+    while len(set(names.values())) > many:
+        many = len(set(names.values()))
+        names = numbered({cell: (names[cell],) + tuple(names[to] for to in exits)
+                          for cell, (_, exits) in cells.items()})
+    return names
+
+
+def numbered(told):
+    numbers = {}
+    return {cell: numbers.setdefault(value, len(numbers)) for cell, value in told.items()}
+
+
+def code_shape(item):
+    return -1 if item[0] == "ask" else len(item[1])
+
+
+def least_stray(program, code):
+    """The least length of a tuple on which a code does not follow a program, or None: all pairs are gone through."""
+    start = (0, (0,) * len(program.variables), 0, code.start)
+    seen = {start}
+    layer = [start]
+    length = 0
+    while layer:
+        length += 1
+        ahead = []
+        for row, state, spot, registers in layer:
+            if shape(program.rows[row]) != code_shape(code.rows[spot]):
+                return length
+            if program.rows[row][0] == "stop":
+                continue
+            exits, said = step(program, row, state)
+            changes, told = code_step(code, spot, registers)
+            if said != told:
+                return length
+            for number, to, new in exits:
+                label = number if code.rows[spot][0] == "choose" else 0
+                cell = (to, new, code.rows[spot][1][label], changes[number])
+                if cell not in seen:
+                    seen.add(cell)
+                    ahead.append(cell)
+        layer = ahead
+    return None
+
+
+def split_states(program, automaton):
+    """A dict of all pairs (row, state of the automaton) that are reached: the set of all states of the program there."""
+    start = (0, 0, (0,) * len(program.variables))
+    seen = {start}
+    waiting = [start]
+    while waiting:
+        row, known, state = waiting.pop()
+        for number, to, new in step(program, row, state)[0]:
+            after = automaton[known].get((row, number), known) if program.rows[row][0] == "choose" else known
+            if (to, after, new) not in seen:
+                seen.add((to, after, new))
+                waiting.append((to, after, new))
+    found = {}
+    for row, known, state in seen:
+        found.setdefault((row, known), set()).add(state)
+    return found

@@ -4,6 +4,7 @@ import random
 
 from leastkeep.codes import Code
 from leastkeep.errors import NoRow
+from leastkeep.hulls import relations
 from leastkeep.programs import Program, forms_said, graph_of
 
 
@@ -129,3 +130,147 @@ def changed_code(code, seed):
         (kind, nexts, tuple(tuple(form) for form in says), tuple(tuple(tuple(form) for form in forms)
                                                                  for forms in changes))
         for kind, nexts, says, changes in rows], tuple(start))
+
+
+def changed_program(program, seed):
+    """The program with one number of a form changed, or the same if it has no forms."""
+    rng = random.Random(seed)
+    places = [(row, at) for row, item in enumerate(program.rows) if item[0] in ("set", "say")
+              for at in range(len(program.variables) + 1)]
+    if not places:
+        return program
+    row, at = rng.choice(places)
+    return with_form(program, row, [0] * at + [1 + rng.randrange((1 << program.width) - 1)])
+
+
+def with_form(program, row, added):
+    """The program with some numbers added to the form of a row."""
+    rows = list(program.rows)
+    item = list(rows[row])
+    added = list(added) + [0] * (len(program.variables) + 1 - len(added))
+    item[-2] = tuple(a + b for a, b in zip(item[-2], added))
+    rows[row] = tuple(item)
+    return Program(program.width, program.variables, rows)
+
+
+def varied(program, seed):
+    """The program with a sum of relations added to each form: it says the same on all runs."""
+    rng = random.Random(seed)
+    found = program
+    for row, item in enumerate(program.rows):
+        if item[0] in ("set", "say"):
+            added = [0] * (len(program.variables) + 1)
+            for form in relations(program, row):
+                factor = rng.getrandbits(program.width)
+                added = [a + factor * b for a, b in zip(added, form)]
+            found = with_form(found, row, added)
+    return found
+
+
+def dense_program(width=64, seed=1):
+    """A program with 6 variables and 25 rows whose forms are dense, with loops: most of it is kept and said."""
+    rng = random.Random(seed)
+    names = ["a", "b", "c", "d", "e", "f"]
+
+    def form():
+        return tuple(rng.getrandbits(width) for _ in range(7))
+    rows = []
+    for at in range(6):
+        rows += [("ask", names[at], 4 * at + 1), ("set", names[(at + 2) % 6], form(), 4 * at + 2),
+                 ("choose", (4 * at + 3, (4 * at + 7) % 25, 0)), ("say", form(), 4 * at + 4)]
+    return Program(width, names, rows + [("set", "a", (0, 1, 2, 3, 4, 5, 6), 0)])
+
+
+def padded_code(code, junk, zeros, seed=1):
+    """The same code with more registers: some that nobody reads, and some that are 0 always and are read everywhere."""
+    rng = random.Random(seed)
+
+    def some(many):
+        return tuple(rng.getrandbits(code.width) for _ in range(many))
+    rows = []
+    for row, (kind, nexts, says, changes) in enumerate(code.rows):
+        size = code.counts[row] + 1
+        asked = (0,) if kind == "ask" else ()
+
+        def wider(form):
+            return form[:size] + (0,) * junk + some(zeros) + form[size:]
+        more = []
+        for forms in changes:
+            added = [some(size + junk + zeros + len(asked)) for _ in range(junk)]
+            added += [(0,) * (size + junk) + some(zeros) + asked for _ in range(zeros)]
+            more.append(tuple(map(wider, forms)) + tuple(added))
+        rows.append((kind, nexts, tuple(map(wider, says)), tuple(more)))
+    return Code(code.width, [count + junk + zeros for count in code.counts], rows,
+                code.start + some(junk) + (0,) * zeros)
+
+
+def random_automaton(program, seed, states=None):
+    """An automaton that a number tells."""
+    rng = random.Random(seed)
+    states = states or rng.randint(1, 4)
+    keys = [(row, label) for row, item in enumerate(program.rows) if item[0] == "choose"
+            for label in range(len(item[1]))]
+    return [{key: rng.randrange(states) for key in keys if rng.random() < 0.7} for _ in range(states)]
+
+
+def random_code(program, seed, most=2):
+    """A code over a program with any forms, which is seldom right."""
+    rng = random.Random(seed)
+    counts = [rng.randint(0, most) for _ in program.rows]
+
+    def form(size):
+        return tuple(rng.choice([0, 0, 1, 2, rng.getrandbits(program.width)]) for _ in range(size + 1))
+    rows = []
+    for row, (kind, nexts) in enumerate(graph_of(program)):
+        asked = 1 if kind == "ask" else 0
+        says = tuple(form(counts[row]) for _ in forms_said(program, row))
+        changes = tuple(tuple(form(counts[row] + asked) for _ in range(counts[to])) for to in nexts)
+        rows.append((kind, nexts, says, changes))
+    return Code(program.width, counts, rows, form(counts[0])[1:])
+
+
+def doubled_code(program, factor=2):
+    """A code that keeps each variable times a factor, and says these: right for what is said times the factor."""
+    size = len(program.variables)
+    rows = []
+    for row, (kind, nexts, says, changes) in enumerate(plain_code(program).rows):
+        scaled = tuple((form[0] * factor,) + form[1:] for form in says)
+        more = tuple(tuple((form[0] * factor,) + form[1:size + 1] + tuple(factor * n for n in form[size + 1:])
+                           for form in forms) for forms in changes)
+        rows.append((kind, nexts, scaled, more))
+    return Code(program.width, [size] * len(rows), rows, (0,) * size)
+
+
+def changed_graph(code, seed):
+    """The code with another next row, another kind, or one label more or less at a row; where that is no code, itself."""
+    rng = random.Random(seed)
+    row = rng.randrange(len(code.rows))
+    rows = list(code.rows)
+    kind, nexts, says, changes = rows[row]
+    to = rng.randrange(len(rows))
+    size = code.counts[row] + 1
+
+    def forms(spot, asked=0):
+        return tuple((rng.getrandbits(code.width),) + (1,) * (size - 1 + asked) for _ in range(code.counts[spot]))
+    made = [(kind, nexts[:-1] + (to,), says, changes[:-1] + (forms(to, kind == "ask"),)) if nexts else
+            ("go", (to,), says, (forms(to),)), ("stop", (), says, ()),
+            ("choose", nexts + (to,), says, tuple(forms(spot) for spot in nexts + (to,))),
+            ("choose", nexts[1:] or (to,), says, tuple(forms(spot) for spot in nexts[1:] or (to,))),
+            ("ask", (nexts + (to,))[:1], says, (forms((nexts + (to,))[0], 1),)),
+            ("go", (nexts + (to,))[:1], says, (forms((nexts + (to,))[0]),))]
+    rows[row] = rng.choice([item for item in made if len(item[1]) <= 6])
+    return Code(code.width, code.counts, rows, code.start)
+
+
+def moved_code(code, seed):
+    """The code with its rows in another order, but for row 0, and with copies of some of them."""
+    rng = random.Random(seed)
+    places = list(range(1, len(code.rows))) + [rng.randrange(len(code.rows)) for _ in range(rng.randint(0, 4))]
+    rng.shuffle(places)
+    places = [0] + places
+    rows = []
+    for at in places:
+        kind, nexts, says, changes = code.rows[at]
+        behind = tuple(rng.choice([k for k, row in enumerate(places) if row == to]) for to in nexts)
+        rows.append((kind, behind, says, changes))
+    return Code(code.width, [code.counts[at] for at in places], rows, code.start)

@@ -51,6 +51,88 @@ True
 >>> smith(3, [(2, 4), (2, 0)])
 [1, 2]
 """,
+    """
+>>> from leastkeep.programs import Program
+>>> from leastkeep.behaviours import least_numbers
+>>> double = Program(8, ["x", "y"], [("ask", "x", 1), ("set", "y", (3, 1, 0), 2), ("choose", (3, 4)), ("say", (0, 1, 1), 2), ("stop",)])
+>>> least_numbers(double)
+[0, 1, 1, 1, 0]
+""",
+    """
+>>> from leastkeep.programs import Program
+>>> from leastkeep.behaviours import least
+>>> half = Program(4, ["x"], [("ask", "x", 1), ("set", "x", (0, 8), 2), ("say", (0, 2), 0)])
+>>> least(half, 2)
+0
+""",
+    """
+>>> from leastkeep.programs import Program
+>>> double = Program(8, ['x', 'y'], [('ask', 'x', 1), ('set', 'y', (3, 1, 0), 2), ('choose', (3, 4)), ('say', (0, 1, 1), 2), ('stop',)])
+>>> from leastkeep.compiling import compiled
+>>> compiled(double).counts
+(0, 1, 1, 1, 0)
+""",
+    """
+>>> from leastkeep.programs import Program
+>>> from leastkeep.codes import Code
+>>> once = Program(8, ['x'], [('ask', 'x', 1), ('say', (0, 2), 2), ('stop',)])
+>>> twice = Code(8, [0, 1, 0], [('ask', (1,), (), (((0, 2),),)), ('go', (2,), ((0, 1),), ((),)), ('stop', (), (), ())], ())
+>>> from leastkeep.compiling import compiled
+>>> from leastkeep.recipes import takeover
+>>> [takeover(once, twice, 1), takeover(once, compiled(once), 1) is None]
+[None, False]
+""",
+    """
+>>> from leastkeep.programs import Program
+>>> from leastkeep.codes import Code
+>>> once = Program(8, ['x'], [('ask', 'x', 1), ('say', (0, 2), 2), ('stop',)])
+>>> twice = Code(8, [0, 1, 0], [('ask', (1,), (), (((0, 2),),)), ('go', (2,), ((0, 1),), ((),)), ('stop', (), (), ())], ())
+>>> from leastkeep.recipes import check_recipe
+>>> check_recipe(once, twice, 1, ((0, 1),)) is None
+False
+""",
+    """
+>>> from leastkeep.programs import Program
+>>> double = Program(8, ['x', 'y'], [('ask', 'x', 1), ('set', 'y', (3, 1, 0), 2), ('choose', (3, 4)), ('say', (0, 1, 1), 2), ('stop',)])
+>>> from leastkeep.recipes import given_back
+>>> given_back(double, 3)
+[(1, 1), (0, 2)]
+""",
+    """
+>>> from leastkeep.programs import Program
+>>> double = Program(8, ['x', 'y'], [('ask', 'x', 1), ('set', 'y', (3, 1, 0), 2), ('choose', (3, 4)), ('say', (0, 1, 1), 2), ('stop',)])
+>>> from leastkeep.equality import apart
+>>> rows = list(double.rows)
+>>> rows[3] = ('say', (3, 2, 0), 2)
+>>> same = Program(8, ['x', 'y'], rows)
+>>> rows[3] = ('say', (4, 2, 0), 2)
+>>> [apart(double, same), len(apart(double, Program(8, ['x', 'y'], rows)))]
+[None, 4]
+""",
+    """
+>>> from leastkeep.programs import Program
+>>> double = Program(8, ['x', 'y'], [('ask', 'x', 1), ('set', 'y', (3, 1, 0), 2), ('choose', (3, 4)), ('say', (0, 1, 1), 2), ('stop',)])
+>>> from leastkeep.tables import table_of
+>>> table_of(double, 2)
+([((0, 0), 0)], (1,), [(2,)])
+""",
+    """
+>>> from leastkeep.programs import Program
+>>> from leastkeep.alike import alike, classes
+>>> from leastkeep.joining import joined, strays
+>>> p = Program(8, ['x'], [('ask', 'x', 1), ('choose', (2, 3)), ('say', (0, 1), 4), ('say', (7, 3), 4), ('stop',)])
+>>> code = joined(p)
+>>> [classes(p), alike(p, 2, p, 3), sorted(code.counts), strays(p, code)]
+[[[0], [1], [2, 3], [4]], True, [0, 0, 1, 1], None]
+""",
+    """
+>>> from leastkeep.programs import Program
+>>> from leastkeep.splits import last_choices, split_numbers
+>>> rows = [('ask', 'x', 1), ('ask', 'y', 2), ('choose', (3, 4)), ('set', 'x', (5, 0, 0), 4), ('look', 5), ('stop',)]
+>>> p = Program(8, ['x', 'y'], rows)
+>>> [split_numbers(p, [{(2, 0): 1}, {}]), last_choices(p)]
+[[(0, 0, 0), (1, 0, 1), (2, 0, 2), (3, 1, 1), (4, 0, 2), (4, 1, 1), (5, 0, 0), (5, 1, 0)], [(2, 2)]]
+""",
 ]
 
 INTERFACE = {
@@ -67,6 +149,16 @@ INTERFACE = {
     "wants": ["wanted(program, row)", "all_wanted(program)", "spanning_ways(program, row)",
               "is_wanted(program, row, form)", "is_spanning_ways(program, row, ways)",
               "told_apart(program, row, one, other)"],
+    "behaviours": ["least(program, row)", "least_numbers(program)", "table(program, row, paper)",
+                   "shown(program, row, paper)", "paper(program, row)"],
+    "compiling": ["compiled(program)"],
+    "recipes": ["takeover(program, code, row)", "check_recipe(program, code, row, recipe)",
+                "given_back(program, row, code=None)"],
+    "equality": ["apart(one, other)"],
+    "tables": ["table_of(program, row)"],
+    "alike": ["alike(one, row, other, spot)", "classes(program)"],
+    "joining": ["strays(program, code)", "joined(program)"],
+    "splits": ["split_numbers(program, automaton)", "split_code(program, automaton)", "last_choices(program)"],
 }
 
 

@@ -89,6 +89,18 @@ class Language(unittest.TestCase):
                 if isinstance(node.func, ast.Attribute):
                     self.assertIn(node.func.attr, own | METHODS)
 
+    def test_names_of_methods_and_attributes(self):
+        taken = {name for value in (str, list, dict, set, int, bytes, tuple) for name in dir(value)
+                 if not name.startswith("__")}
+        for path in FILES:
+            for made in nodes_of(path, ast.ClassDef):
+                methods = {node.name for node in made.body if isinstance(node, ast.FunctionDef)}
+                self.assertFalse(methods & taken, made.name)
+                held = {node.attr for node in ast.walk(made)
+                        if isinstance(node, ast.Attribute) and isinstance(node.ctx, ast.Store)}
+                self.assertFalse(held & (taken - {"index"}), made.name)
+                self.assertFalse(methods & held, made.name)
+
     def test_what_does_not_stand_in_the_package(self):
         # Some of these may stand in narrow places; the package does without them.
         barred = (ast.Try, ast.With, ast.Global, ast.Nonlocal, ast.Div, ast.Pow, ast.GeneratorExp, ast.Yield,
