@@ -106,11 +106,12 @@ def _check_changes(row, changes, counts, size):
     if not isinstance(changes, tuple) or len(changes) != len(counts):
         raise NoCode(row, "changes", -1)
     for index, forms in enumerate(changes):
-        if not _are_forms(forms, counts[index], size):
+        if not are_forms(forms, counts[index], size):
             raise NoCode(row, "changes", index)
 
 
-def _are_forms(forms, many, size):
+def are_forms(forms, many, size):
+    """Whether a value is a tuple of `many` forms over `size` registers."""
     return (isinstance(forms, tuple) and len(forms) == many
             and all([is_form(form, size) for form in forms]))
 

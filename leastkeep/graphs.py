@@ -22,13 +22,14 @@ def wrong_number(graph, row, numbers):
     if not isinstance(numbers, (list, tuple)):
         return -1
     for index, number in enumerate(numbers):
-        if not _fits(graph[row], number):
+        if not fits(graph[row], number):
             return index
         row = next_row(graph, row, number)
     return None
 
 
-def _fits(exits, number):
+def fits(exits, number):
+    """Whether a number is one that a row can be executed with."""
     kind, nexts = exits
     if kind == "ask":
         return is_integer(number)

@@ -19,7 +19,7 @@ def hull(program, row):
 def all_hulls(program):
     """The list of the hulls of all rows."""
     found = _nodes_by_row(program)
-    return [_hull_of(program, [node.vector[1:] for node in nodes]) for nodes in found]
+    return [hull_of(program.width, [node.vector[1:] for node in nodes]) for nodes in found]
 
 
 def relations(program, row):
@@ -59,7 +59,7 @@ def is_spanning(program, row, runs):
     if not all([reaches(program, row, numbers) for numbers in runs]):
         return False
     states = [run(program, numbers)[1] for numbers in runs]
-    return _hull_of(program, states) == hull(program, row)
+    return hull_of(program.width, states) == hull(program, row)
 
 
 def check_form(program, form):
@@ -94,9 +94,18 @@ def _difference(one, other):
     return tuple([number - less for number, less in zip(one, other)])
 
 
-def _hull_of(program, states):
+def hull_of(width, states):
+    """The hull of some states, as `hull` tells it: (base, module), or None if there are none."""
     if not states:
         return None
     differences = [_difference(state, states[0]) for state in states]
-    stairs = stairs_of(program.width, len(program.variables), differences)
+    stairs = stairs_of(width, len(states[0]), differences)
     return (stairs.rest(states[0]), stairs.echelon_rows())
+
+
+def hull_of_vectors(width, vectors):
+    """The hull whose states and differences are sums of vectors: of 1 and a state, or 0 and a difference of states."""
+    if not vectors:
+        return None
+    rows = stairs_of(width, len(vectors[0]), vectors).echelon_rows()
+    return (rows[0][1:], [row[1:] for row in rows[1:]])

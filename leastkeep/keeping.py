@@ -17,6 +17,16 @@ def kept_parts(width, there, wants):
     return [differences[index] for index in picked(width, len(wants), products)]
 
 
+def kept_wants(width, there, wants):
+    """As few of what is wanted at a hull as there can be, so that all else is like sums of their multiples.
+
+    What has the same products with all differences of states is alike.
+    """
+    differences = there[1]
+    products = [[product_of(want, difference, width) for difference in differences] for want in wants]
+    return [wants[index] for index in picked(width, len(differences), products)]
+
+
 def told_hull(width, there, forms):
     """The hull of the values that forms have in the states of a hull: a tuple (base, module)."""
     base, differences = there

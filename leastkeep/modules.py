@@ -2,7 +2,7 @@
 
 from leastkeep.errors import NoRows
 from leastkeep.stairs import Solver, odd_inverse, stairs_of, valuation
-from leastkeep.values import is_width, is_within, lowered, unit_row, wrong_integer
+from leastkeep.values import is_from_zero, is_width, lowered, unit_row, wrong_integer
 
 
 def echelon(width, size, rows):
@@ -117,7 +117,7 @@ def _cleared(row, column, part, width):
 def _check_rows(width, size, part, rows):
     if not is_width(width):
         raise NoRows("width", -1)
-    if not is_within(size, 0, size):
+    if not is_from_zero(size):
         raise NoRows("size", -1)
     _check_list(size, part, rows)
 

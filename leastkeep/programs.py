@@ -20,7 +20,7 @@ class Program:
         _check_rows(variables, rows)
         self.width = width
         self.variables = tuple(variables)
-        self.rows = tuple([_lowered_row(item, width) for item in rows])
+        self.rows = tuple([lowered_row(item, width) for item in rows])
 
     def __eq__(self, other):
         return (isinstance(other, Program) and self.width == other.width
@@ -118,11 +118,12 @@ def _check_variables(variables):
     if not is_sequence(variables, 1, MOST_VARIABLES):
         raise NoProgram("variables", -1)
     for index, name in enumerate(variables):
-        if not _is_name(name) or name in variables[:index]:
+        if not is_name(name) or name in variables[:index]:
             raise NoProgram("variables", index)
 
 
-def _is_name(value):
+def is_name(value):
+    """Whether a value can be the name of a variable."""
     return (isinstance(value, str) and 1 <= len(value) <= LONGEST_NAME
             and all(["a" <= letter <= "z" for letter in value]))
 
@@ -131,20 +132,21 @@ def _check_rows(variables, rows):
     if not is_sequence(rows, 1, MOST_ROWS):
         raise NoProgram("rows", -1)
     for index, item in enumerate(rows):
-        if not _is_row(item, variables, len(rows)):
+        if not is_row(item, variables, len(rows)):
             raise NoProgram("rows", index)
 
 
-def _is_row(item, variables, many):
+def is_row(item, variables, many):
+    """Whether a value is a row over some variables that leads to some of `many` rows."""
     if not isinstance(item, tuple) or not item or not isinstance(item[0], str):
         return False
     kind = item[0]
     rest = item[1:]
     if kind == "set" and len(rest) == 3:
-        return (_is_variable(rest[0], variables) and is_form(rest[1], len(variables))
+        return (is_variable(rest[0], variables) and is_form(rest[1], len(variables))
                 and is_within(rest[2], 0, many - 1))
     if kind == "ask" and len(rest) == 2:
-        return _is_variable(rest[0], variables) and is_within(rest[1], 0, many - 1)
+        return is_variable(rest[0], variables) and is_within(rest[1], 0, many - 1)
     if kind == "say" and len(rest) == 2:
         return is_form(rest[0], len(variables)) and is_within(rest[1], 0, many - 1)
     if kind == "look" and len(rest) == 1:
@@ -154,11 +156,13 @@ def _is_row(item, variables, many):
     return kind == "stop" and not rest
 
 
-def _is_variable(value, variables):
+def is_variable(value, variables):
+    """Whether a value is one of some variables."""
     return isinstance(value, str) and value in variables
 
 
-def _lowered_row(item, width):
+def lowered_row(item, width):
+    """The row with all numbers of its form from 0 to 2 ** width - 1."""
     if item[0] == "set":
         return ("set", item[1], lowered(item[2], width), item[3])
     if item[0] == "say":

@@ -13,6 +13,11 @@ def is_within(value, least, most):
     return is_integer(value) and least <= value <= most
 
 
+def is_from_zero(value):
+    """Whether a value is an integer that is not below 0."""
+    return is_integer(value) and value >= 0
+
+
 def is_width(value):
     """Whether numbers may be reckoned modulo 2 to the power of a value."""
     return is_within(value, 1, WIDEST)

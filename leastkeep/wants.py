@@ -18,7 +18,7 @@ def wanted(program, row):
 def all_wanted(program):
     """The list of what is wanted at all rows."""
     size = len(program.variables)
-    found = _nodes_by_row(program)
+    found = nodes_wanting(program, starts_saying(program))
     return [echelon(program.width, size, [node.vector for node in nodes]) for nodes in found]
 
 
@@ -32,7 +32,7 @@ def is_wanted(program, row, form):
 def spanning_ways(program, row):
     """As few (way on, index of a number that it says) as there can be, which make up what is wanted at a row."""
     check_row(program, row)
-    nodes = _nodes_by_row(program)[row]
+    nodes = nodes_wanting(program, starts_saying(program))[row]
     chosen = picked(program.width, len(program.variables), [node.vector for node in nodes])
     return [_way_from(program, nodes[index]) for index in chosen]
 
@@ -91,15 +91,18 @@ def form_of_way(program, row, numbers, index):
     return form
 
 
-def _nodes_by_row(program):
-    """For each row a list of nodes: linear parts of what is said on ways on, the shorter ones first.
+def starts_saying(program):
+    """Nodes without a source: the linear parts that the rows say; their numbers are the positions among these."""
+    return [Node(row, form[1:], None, position) for row in range(len(program.rows))
+            for position, form in enumerate(forms_said(program, row))]
 
-    The search goes back from the rows that say something. The first node has
-    no source, and its number is the position among what its row says.
+
+def nodes_wanting(program, starts):
+    """For each row a list of nodes: linear parts of what is wanted on ways on, the shorter ones first.
+
+    The search goes back from some nodes, such as those of the rows that say something.
     """
     steps_to = _steps_to_rows(program)
-    starts = [Node(row, form[1:], None, position) for row in range(len(program.rows))
-              for position, form in enumerate(forms_said(program, row))]
 
     def moves(row, part):
         return [(number, ahead, pulled_back(program, ahead, (0,) + part, 0)[1:]) for number, ahead in steps_to[row]]

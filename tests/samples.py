@@ -2,8 +2,11 @@
 
 import random
 
+from leastkeep.calls import Calls
 from leastkeep.codes import Code
+from leastkeep.desks import Desk
 from leastkeep.errors import NoRow
+from leastkeep.guessing import GuessCode
 from leastkeep.hulls import relations
 from leastkeep.programs import Program, forms_said, graph_of
 
@@ -20,6 +23,25 @@ def once():
 def twice():
     return Code(8, [0, 1, 0], [("ask", (1,), (), (((0, 2),),)), ("go", (2,), ((0, 1),), ((),)),
                                ("stop", (), (), ())], ())
+
+
+def pair():
+    """The program of the guesses: x or y is said."""
+    return Program(8, ["x", "y"], [("ask", "x", 1), ("ask", "y", 2), ("choose", (3, 4)), ("say", (0, 1, 0), 5),
+                                   ("say", (0, 0, 1), 5), ("stop",)])
+
+
+def turning():
+    """The program of the rounds: x becomes 3 x + 1, and x + y is said."""
+    return Program(8, ["x", "y"], [("set", "x", (1, 3, 0), 1), ("say", (0, 1, 1), 0)])
+
+
+def climbing():
+    """A program with calls, with the function of the example: its result is n, 2 n + 2, 4 n + 8, and so on."""
+    return Calls(8, [
+        ("main", (), ("x",), (("ask", "x", 1), ("call", "x", "f", ((0, 1),), 2), ("say", (0, 1), 0))),
+        ("f", ("n",), ("r",), (("choose", (1, 2)), ("return", (0, 1, 0)), ("call", "r", "f", ((1, 1, 0),), 3),
+                               ("return", (0, 0, 2))))])
 
 
 def double_code(constant=3, factor=2):
@@ -45,7 +67,8 @@ def odd_values():
         yield 1
     return [None, True, False, b"x", bytearray(b"x"), memoryview(b"x"), 1j, {}, {0: 0}, set(), {0}, frozenset(),
             range(3), object(), int, tuple, len, made, made(), iter([]), zip(), slice(0, 1), Ellipsis,
-            NotImplemented, Exception("x"), NoRow(0), double(), twice()]
+            NotImplemented, Exception("x"), NoRow(0), double(), twice(), Desk(once()), GuessCode(twice(), twice(), ()),
+            climbing()]
 
 
 def no_sequences():
@@ -274,3 +297,80 @@ def moved_code(code, seed):
         behind = tuple(rng.choice([k for k, row in enumerate(places) if row == to]) for to in nexts)
         rows.append((kind, behind, says, changes))
     return Code(code.width, [code.counts[at] for at in places], rows, code.start)
+
+
+def random_guesses(program, seed, most=4):
+    """Guesses that a number tells."""
+    rng = random.Random(seed)
+
+    def number():
+        return rng.choice([0, 0, 0, 1, 1, 2, -1, rng.getrandbits(program.width)])
+    return [(rng.randrange(len(program)), tuple(number() for _ in range(len(program.variables) + 1)))
+            for _ in range(rng.randint(0, most))]
+
+
+def asking_program(seed):
+    """A small program that asks for all variables first, so that guesses at the row behind leave less to be kept."""
+    rng = random.Random(seed)
+    width, size = rng.choice([(1, 2), (2, 2), (1, 3), (3, 2)])
+    later = random_program(seed, width, size, rng.randint(3, 7))
+    names = later.variables
+    rows = [("ask", name, at + 1) for at, name in enumerate(names)]
+    for item in later.rows:
+        nexts = tuple([to + size for to in item[-1]]) if item[0] == "choose" else item[-1:]
+        rows.append(item if item[0] == "stop" else ("choose", nexts) if item[0] == "choose" else
+                    item[:-1] + (item[-1] + size,))
+    return Program(width, names, rows)
+
+
+def equal_guesses(program, seed):
+    """Guesses that two variables are equal, or that one is 0, where all of them have been asked for."""
+    rng = random.Random(seed)
+    size = len(program.variables)
+
+    def form():
+        at, other = rng.sample(range(1, size + 1), 2)
+        return tuple(1 if place == at else rng.choice([0, -1]) if place == other else 0 for place in range(size + 1))
+    return [(rng.choice([size, size, rng.randrange(len(program))]), form()) for _ in range(rng.randint(1, 3))]
+
+
+def changed_guess_code(code, seed):
+    """The GuessCode with one number changed: of one of its codes, or of the ways back."""
+    rng = random.Random(seed)
+    backs = [[list(form) for form in forms] for forms in code.backs]
+    places = [(look, at, place) for look, forms in enumerate(backs) for at, form in enumerate(forms)
+              for place in range(len(form))]
+    which = rng.randrange(4)
+    if which == 0 or not places:
+        return GuessCode(changed_code(code.quick, seed), code.plain, code.backs)
+    if which == 1:
+        return GuessCode(code.quick, changed_code(code.plain, seed), code.backs)
+    look, at, place = rng.choice(places)
+    backs[look][at][place] += 1 + rng.randrange((1 << code.quick.width) - 1)
+    return GuessCode(code.quick, code.plain, [tuple(tuple(form) for form in forms) for forms in backs])
+
+
+def padded_guess_code(code, junk, zeros):
+    """The same GuessCode with more registers: see `padded_code`."""
+    more = junk + zeros
+    backs = [tuple(form + (0,) * more for form in forms) + ((0,) * (code.quick.counts[len(code.plain.rows) + at] + 1 + more),) * more
+             for at, forms in enumerate(code.backs)]
+    return GuessCode(padded_code(code.quick, junk, zeros), padded_code(code.plain, junk, zeros), backs)
+
+
+def loop_program(seed):
+    """A program that is one round from row 0 to row 0: it says something, or nothing, and often its states fade."""
+    rng = random.Random(seed)
+    size = rng.randint(1, 6)
+    width = rng.choice([1, 2, 3, 4, 5]) if size < 4 else rng.choice([1, 2, 3])
+    names = "abcdef"[:size]
+    many = rng.randint(1, 9)
+    rows = []
+    for row in range(many):
+        to = (row + 1) % many
+        form = tuple(rng.choice([0, 1, 1, 2, -1, rng.getrandbits(width)]) for _ in range(size + 1))
+        if rng.random() < 0.2:
+            rows.append(("say", form, to))
+        else:
+            rows.append(("set", rng.choice(names), form, to))
+    return Program(width, list(names), rows)

@@ -9,7 +9,8 @@ FOLDER = pathlib.Path(__file__).resolve().parent.parent / "leastkeep"
 FILES = sorted(FOLDER.glob("*.py"))
 BUILTINS = {"len", "range", "enumerate", "zip", "min", "max", "sum", "abs", "sorted", "reversed", "int", "str", "bool",
             "list", "tuple", "dict", "isinstance", "any", "all", "divmod", "ValueError", "TypeError"}
-METHODS = {"append", "extend", "pop", "get", "index", "items", "join", "bit_length"}
+METHODS = {"append", "extend", "insert", "pop", "get", "index", "items", "join", "bit_length", "setdefault", "split"}
+LIBRARY = {"heapq": {"heappop", "heappush"}, "math": {"lcm"}}
 WORDS = {"type", "typing", "enum", "namedtuple", "dataclass", "overload", "register", "mro", "elements", "open", "input",
          "law"}
 EATERS = {"any", "all", "min", "max", "sum", "sorted"}
@@ -29,6 +30,17 @@ def bound_names(path):
                 yield node.id
         else:
             yield node.name
+
+
+def defined_names(path):
+    """The functions, classes and values that a file defines."""
+    found = set()
+    for node in ast.parse(path.read_text()).body:
+        if isinstance(node, ast.Assign):
+            found |= {target.id for target in node.targets}
+        elif isinstance(node, (ast.FunctionDef, ast.ClassDef)):
+            found.add(node.name)
+    return found
 
 
 def imported_names(path):
@@ -56,12 +68,28 @@ class Language(unittest.TestCase):
             self.assertEqual(nodes_of(path, ast.Import), [])
             for node in nodes_of(path, ast.ImportFrom):
                 folder, _, file = node.module.partition(".")
-                self.assertEqual((folder, node.level), ("leastkeep", 0))
-                own = {name.name for name in ast.parse((FOLDER / (file + ".py")).read_text()).body
-                       if isinstance(name, (ast.FunctionDef, ast.ClassDef))}
+                self.assertEqual(node.level, 0)
+                own = LIBRARY[folder] if folder in LIBRARY else defined_names(FOLDER / (file + ".py"))
+                self.assertTrue(folder == "leastkeep" or not file)
                 for alias in node.names:
                     self.assertIn(alias.name, own)
                     self.assertIsNone(alias.asname)
+
+    def test_no_two_files_import_from_each_other(self):
+        ahead = {path.stem: {node.module.partition(".")[2] for node in nodes_of(path, ast.ImportFrom)} - {""}
+                 for path in FILES}
+        while ahead:
+            ready = [file for file, others in ahead.items() if not others & set(ahead)]
+            self.assertTrue(ready, sorted(ahead))
+            for file in ready:
+                del ahead[file]
+
+    def test_what_is_taken_from_the_library_is_called_alone(self):
+        for path in FILES:
+            names = imported_names(path) & set.union(*LIBRARY.values())
+            met = sum(node.id in names for node in nodes_of(path, ast.Name))
+            called = sum(isinstance(node.func, ast.Name) and node.func.id in names for node in nodes_of(path, ast.Call))
+            self.assertEqual(met, called)
 
     def test_imports_are_used(self):
         for path in FILES:
@@ -95,7 +123,7 @@ class Language(unittest.TestCase):
         for path in FILES:
             for made in nodes_of(path, ast.ClassDef):
                 methods = {node.name for node in made.body if isinstance(node, ast.FunctionDef)}
-                self.assertFalse(methods & taken, made.name)
+                self.assertFalse(methods & (taken - {"add"}), made.name)
                 held = {node.attr for node in ast.walk(made)
                         if isinstance(node, ast.Attribute) and isinstance(node.ctx, ast.Store)}
                 self.assertFalse(held & (taken - {"index"}), made.name)
@@ -103,7 +131,7 @@ class Language(unittest.TestCase):
 
     def test_what_does_not_stand_in_the_package(self):
         # Some of these may stand in narrow places; the package does without them.
-        barred = (ast.Try, ast.With, ast.Global, ast.Nonlocal, ast.Div, ast.Pow, ast.GeneratorExp, ast.Yield,
+        barred = (ast.With, ast.Global, ast.Nonlocal, ast.Div, ast.Pow, ast.GeneratorExp, ast.Yield,
                   ast.YieldFrom, ast.Starred, ast.Set, ast.SetComp, ast.AsyncFunctionDef, ast.Delete)
         for path in FILES:
             self.assertEqual(nodes_of(path, *barred), [], path.name)
@@ -111,6 +139,26 @@ class Language(unittest.TestCase):
                 self.assertEqual(node.decorator_list, [])
             for node in nodes_of(path, ast.Constant):
                 self.assertNotIsInstance(node.value, float)
+
+    def test_errors_that_are_caught(self):
+        own = defined_names(FOLDER / "errors.py")
+        for path in FILES:
+            for node in nodes_of(path, ast.Try):
+                self.assertEqual(node.finalbody, [])
+                for handler in node.handlers:
+                    self.assertIn(handler.type.id, own)
+
+    def test_sets_are_not_added_to(self):
+        """A class has a method `add`, so that no set may be changed by one."""
+        for path in FILES:
+            for node in nodes_of(path, ast.Attribute):
+                self.assertNotIn(node.attr, ("add", "discard"))
+
+    def test_no_name_is_a_method_here_and_an_attribute_there(self):
+        methods = {node.name for path in FILES for made in nodes_of(path, ast.ClassDef) for node in made.body
+                   if isinstance(node, ast.FunctionDef)}
+        held = {node.attr for path in FILES for node in nodes_of(path, ast.Attribute) if isinstance(node.ctx, ast.Store)}
+        self.assertFalse(methods & held)
 
     def test_is_stands_beside_none_alone(self):
         for path in FILES:
