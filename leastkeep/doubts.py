@@ -107,8 +107,7 @@ def _says_the_same(pairs, starts):
 
 def _check_code(program, guessed, code):
     """Raise NotOver if a value is no GuessCode whose codes stand over a program with looks, and over the program."""
-    if (not isinstance(code, GuessCode) or program.width != code.quick.width
-            or len(guessed.rows) != len(code.quick.rows) or len(program.rows) != len(code.plain.rows)):
+    if not isinstance(code, GuessCode) or len(program.rows) != len(code.plain.rows):
         raise NotOver(-1)
     check_over(guessed, code.quick)
     check_over(program, code.plain)

@@ -97,12 +97,8 @@ def last_row(quick, many, row):
 
 
 def _back(gauge, plain):
-    """The registers of a plain code, as forms over those at a look; forms that are 0 where no state comes."""
-    if plain is None:
-        return ()
-    if gauge is None:
-        return ((0,),) * len(plain.parts)
-    return tuple([gauge.form_over(part) for part in plain.parts])
+    """The registers of a plain code, as forms over those at a look; where no step leads, it has no registers."""
+    return () if gauge is None else tuple([gauge.form_over(part) for part in plain.parts])
 
 
 def _check_codes(quick, plain):

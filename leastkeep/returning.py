@@ -21,8 +21,7 @@ def results_of(bodies):
         search.offer(Trace((function, 0), _joined(columns), None, None, None))
     trace = search.next_found()
     while trace is not None:
-        for other in _behind(bodies, search, trace):
-            search.offer(other)
+        search.offer_all(_behind(bodies, search, trace))
         trace = search.next_found()
     return [search.at((function, RETURNED)) for function in range(len(bodies))]
 
@@ -39,8 +38,7 @@ def reaching(bodies, results):
             called = body.called[row]
             vector = bodies[called].first_vector(body.handed_over(row, trace.vector))
             search.offer(Trace((called, 0), vector, trace, 0, None))
-        for other in _steps(bodies, trace, results):
-            search.offer(other)
+        search.offer_all(_steps(bodies, trace, results))
         trace = search.next_found()
     return search.kept
 

@@ -1,11 +1,11 @@
 """What functions return, which states reach their rows, and what is wanted there, through all calls."""
 
+from leastkeep.behind import wants_behind
 from leastkeep.bodies import Execution, bodies_of, check_function, numbers_done
 from leastkeep.errors import NoForm, NoRow, NoRun
 from leastkeep.hulls import hull_of, hull_of_vectors
 from leastkeep.modules import echelon, is_in, kernel, picked
 from leastkeep.returning import reaching, results_of
-from leastkeep.behind import wants_behind
 from leastkeep.values import is_within, product_of, unit_row, wrong_integer
 
 

@@ -57,6 +57,11 @@ class Traces:
         heappush(self.queue, (trace.length, len(self.offered)))
         self.offered.append(trace)
 
+    def offer_all(self, traces):
+        """Let each of a list of traces be found likewise."""
+        for trace in traces:
+            self.offer(trace)
+
     def next_found(self):
         """The shortest trace that does not follow from those that were found, or None if there is none left."""
         while self.queue:

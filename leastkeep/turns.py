@@ -66,7 +66,7 @@ def _most_ahead(turn):
 
 
 def _odd_periods(turn):
-    """A multiple of the odd parts of all periods: orders of tables of k columns modulo 2 divide those of 2 ** k - 1."""
+    """A multiple of the odd parts of all periods: each is the least multiple of divisors of some 2 ** size - 1."""
     found = 1
     for size in range(1, len(turn.columns) + 1):
         found = lcm(found, (1 << size) - 1)

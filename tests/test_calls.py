@@ -121,7 +121,7 @@ class Wrong(unittest.TestCase):
         self.no_head(("f", ("n",), ("r", "s", "r"), None), "variables", 2)
 
     def test_rows(self):
-        for bad in no_sequences() + [(), list(F[3]), F[3] * 4]:
+        for bad in no_sequences() + [(), list(F[3]), F[3] * 3 + F[3][:1]]:
             self.no_calls(8, [MAIN, F[:3] + (bad,)], (1, "rows", -1))
         self.no_calls(8, [MAIN[:3] + (None,), F[:3] + (None,)], (0, "rows", -1))
         for bad in no_sequences() + [(), ("stop",), ("return",), ("look",), ["look", 0], ("go", 0), "look"]:

@@ -229,6 +229,17 @@ class Edges(unittest.TestCase):
         self.assertEqual(first_unlike(program, 0, numbers, (0,) * 6, 0, numbers, (0, 0, 0, 0, 0, 1)), 5)
         self.assertEqual(first_unlike(program, 0, numbers * 14, (0,) * 6, 0, numbers, (0, 0, 0, 0, 0, 1)), 5)
 
+    def test_unlike_far_behind_many_numbers(self):
+        """A long round says 0 forty times, and then a: behind five shifts that is what f was; a short one says 0."""
+        rows = [("choose", (1, 2)), ("say", (0,) * 7, 0)]
+        for at, name in enumerate("abcde"):
+            rows.append(("set", name, tuple(1 if place == at + 2 else 0 for place in range(7)), at + 3))
+        program = Program(64, list("abcdef"), rows + [("say", (0, 1, 0, 0, 0, 0, 0), 0)])
+        long, state = [0, 0] * 40 + [1] + [0] * 6, (0, 0, 0, 0, 0, 1)
+        self.assertEqual(first_unlike(program, 0, long, state, 0, [0, 0], state), 41 * 5 - 1)
+        self.assertEqual(first_unlike(program, 0, [0, 0], state, 0, long, state), 41 * 5 - 1)
+        self.assertIsNone(first_unlike(program, 0, [0, 0], state, 0, long, (0,) * 6))
+
     def test_unlike_when_rounds_have_other_lengths(self):
         """One round says 1 at each place; the other says 1 sixty times, and then 1 plus what has become of x."""
         rows = [("say", (1, 0), 1), ("choose", (0, 2)), ("say", (1, 1), 0), ("set", "x", (0, 0), 3)]

@@ -148,7 +148,7 @@ class Small(unittest.TestCase):
 class Results(unittest.TestCase):
     def test_examples(self):
         self.assertEqual(summary(climbing(), 1), ((0, 0), [(2, 0), (0, 1)]))
-        self.assertEqual(len(summary_runs(climbing(), 1)), 3)
+        self.assertEqual([len(numbers) for numbers in summary_runs(climbing(), 1)], [2, 5, 8])
         self.assertEqual([result_form(climbing(), 1, numbers) for numbers in
                           [(0, 0), (1, 0, 0, 0, 0), (1, 0, 1, 0, 0, 0, 0, 0)]], [(0, 1), (2, 2), (8, 4)])
         self.assertIsNone(escapes(climbing(), 1, [(0, 0), (2, 0), (0, 1)]))
@@ -264,6 +264,18 @@ class Wanting(unittest.TestCase):
         self.assertEqual([wanted_in(program, 0, row) for row in range(4)], [[], [(64, 0)], [(0, 8)], []])
         self.assertEqual(wanted_in(program, 1, 0), [(64,)])
         self.assertEqual([wanted_in(program, 2, row) for row in (0, 1)], [[(4,)], []])
+
+    def test_a_result_beside_what_was_handed_over(self):
+        main = main_that([("ask", "y", 1), ("call", "x", "g", ((5, 0, 3),), 2), ("say", (0, 1, 1), 3), ("return", (0, 0, 0))],
+                         ("x", "y"))
+        program = Calls(8, [main, ("g", ("n",), (), (("return", (1, 5)),))])
+        self.assertEqual([wanted_in(program, 0, row) for row in (0, 1, 2)], [[], [(0, 16)], [(1, 1)]])
+        both = (("choose", (1, 2)), ("return", (1, 5)), ("return", (0, 2)))
+        program = Calls(8, [main, ("g", ("n",), (), both)])
+        # y is said 16 times, or 7 times.
+        self.assertEqual(wanted_in(program, 0, 1), [(0, 1)])
+        program = Calls(8, [main, ("g", ("n",), (), both[:2] + (("return", (0, 1)),))])
+        self.assertEqual(wanted_in(program, 0, 1), [(0, 4)])
 
     def test_rows_that_no_run_reaches(self):
         main = main_that([("call", "x", "g", ((0, 1),), 1), ("say", (0, 2), 1), ("say", (0, 8), 2)])
